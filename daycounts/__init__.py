@@ -1,0 +1,1 @@
+"""Days counted: spans, days of rest and stops on one calendar."""
