@@ -1,7 +1,5 @@
 """What has been told of one calendar: its days of rest, its ways of counting, its stops."""
 
-from daycounts.dates import day_number, easter, weekday
-
 
 class Book:
     """The lists hold what was told, in the order in which it was told."""
@@ -16,14 +14,6 @@ class Book:
         self.closed_days = []
         self.ways = []
         self.stops = []
-
-    def rests(self, date):
-        number = day_number(date)
-        if weekday(number) in self.week_days or number in self.closed_days:
-            return True
-        if (date[1], date[2]) in self.yearly_days:
-            return True
-        return number - day_number(easter(date[0])) in self.easter_days
 
     def is_behind_stops(self, number):
         # A stop is taken only behind all others, so the newest one is the last to end.

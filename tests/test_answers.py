@@ -7,18 +7,36 @@ import unittest
 from unittest import mock
 
 from daycounts.calendar import answers
-from tests.helper import ask, begins, closed, easters, joined, rest, stop, way, week, yearly
+from tests.helper import (
+    DAYS, MONTHS, WORKING_DAYS, anew, ask, begins, between, closed, easter, easters, in_time, joined, last, latest,
+    rest, stop, way, week, working, yearly,
+)
 
-EACH_CALL = joined([
+TOLD = [
     week(5, 6), yearly(12, 25), easters(1), closed(2026, 5, 15), way(1, 3, 2), stop((2026, 1, 1), (2026, 1, 2)),
-    rest(2026, 4, 6), week(6, 5), yearly(2, 30), easters(61), closed(1, 1, 1), way(0, 4, 0),
-    stop((2026, 1, 2), (2026, 1, 1)), rest(3000, 1, 1), begins(), rest(2026, 4, 6), week(),
-])
-EACH_ANSWER = [
-    1, 2, 1, 1, 1, 1, 1, 1, 1, 0, 1, 1,
-    2, 1, 0, 1, -1, 1, -1, 1, -1, 1, -1, 1, -1,
-    1, -3, 1, -1, 1, 0, 2, 0, 0, 1, 0,
 ]
+ASKED = [
+    rest(2026, 4, 6), last(0, (2026, 4, 1), DAYS, 6), anew(0, (2026, 4, 1), DAYS, 6, [(2026, 4, 2), (2026, 4, 7)]),
+    latest(0, (2026, 4, 7), DAYS, 6), in_time((2026, 4, 1), (2026, 4, 7), DAYS, 6),
+    between(0, (2026, 2, 28), (2027, 4, 1)), working((2025, 12, 22), (2026, 1, 5)), easter(2026),
+]
+REFUSED = [
+    week(6, 5), yearly(2, 30), easters(61), closed(1, 1, 1), way(0, 4, 0), stop((2026, 1, 2), (2026, 1, 1)),
+    rest(3000, 1, 1), last(1, (2026, 4, 1), DAYS, 6), anew(0, (2026, 4, 1), DAYS, 6, [(2026, 4, 2), (2026, 4, 2)]),
+    latest(0, (1600, 1, 1), MONTHS, 1), in_time((2026, 4, 1), (2026, 4, 7), 5, 6),
+    between(1, (2026, 2, 28), (2027, 4, 1)), working((2026, 1, 5), (2025, 12, 22)), easter(3000),
+    last(0, (2999, 12, 31), WORKING_DAYS, 2),
+]
+# What is asked stands before and behind the refusals, which change nothing.
+EACH_CALL = joined([
+    *TOLD, *ASKED, *REFUSED, *ASKED, begins(), rest(2026, 4, 6), last(0, (2026, 4, 1), DAYS, 6), week(),
+])
+TOLD_ANSWER = [1, 2, 1, 1, 1, 1, 1, 1, 1, 0, 1, 1]
+ASKED_ANSWER = [
+    2, 1, 0, 4, 1, 2026, 4, 7, 4, 0, 2026, 4, 13, 4, 3, 2026, 4, 2, 2, 1, 0, 4, 1, 1, 1, 397, 1, 8, 4, 0, 2026, 4, 5,
+]
+REFUSED_ANSWER = joined([[1, number] for number in (-1, -1, -1, -1, -1, -3, -1, -2, -3, -7, -1, -2, -3, -1, -6)])
+EACH_ANSWER = [*TOLD_ANSWER, *ASKED_ANSWER, *REFUSED_ANSWER, *ASKED_ANSWER, 1, 0, 2, 0, 0, 1, -2, 1, 0]
 
 
 class Watched(list):
@@ -45,6 +63,13 @@ class Answers(unittest.TestCase):
         self.assertEqual(answers([1, 0]), [1, 0])
         self.assertEqual(answers([7, 1600, 1, 1]), [2, 0, 5])
         self.assertEqual(answers([7, 1599, 12, 31]), [1, -1])
+        self.assertEqual(answers([8, 0, 2026, 1, 1, 0, 1]), [1, -2])
+        self.assertEqual(answers([9, 0, 2026, 1, 1, 0, 1, 3, 2026, 1, 1]), [1, -2])
+        self.assertEqual(answers([10, 0, 2026, 1, 1, 0, 1]), [1, -2])
+        self.assertEqual(answers([11, 2026, 1, 1, 2026, 1, 1, 0, 1]), [1, 0])
+        self.assertEqual(answers([12, 0, 2026, 1, 1, 2026, 1, 1]), [1, -2])
+        self.assertEqual(answers([13, 2026, 1, 1, 2026, 1, 2]), [1, 2])
+        self.assertEqual(answers([14, 2026]), [4, 0, 2026, 4, 5])
 
     def test_a_hundred_calls(self):
         calls = [*[yearly(12, 25)] * 40, *[easters(0)] * 40, *[way(0, 0, 0)] * 8, begins(), *[yearly(1, 1)] * 10,
@@ -55,6 +80,16 @@ class Answers(unittest.TestCase):
                                        [1, 3]])
         self.assertEqual(ask(*[week(*range(20))] * 99, week(1)), [*[[-1]] * 99, [1]])
         self.assertEqual(ask(*[begins()] * 100), [[0]] * 100)
+
+    def test_a_hundred_calls_of_all_sorts(self):
+        calls = [*TOLD, *ASKED * 10, *TOLD[:4], *ASKED, begins(), easter(1600)]
+        self.assertEqual(len(calls), 100)
+        self.assertEqual(answers(joined(calls)), [
+            *TOLD_ANSWER, *ASKED_ANSWER * 10, 1, 2, 1, 2, 1, 2, 1, 2, *ASKED_ANSWER, 1, 0, 4, 0, 1600, 4, 2])
+
+    def test_calendars_one_behind_another(self):
+        calls = [*TOLD, *ASKED, begins()] * 6
+        self.assertEqual(answers(joined(calls)), [*TOLD_ANSWER, *ASKED_ANSWER, 1, 0] * 6)
 
     def test_calls_are_not_changed(self):
         calls = list(EACH_CALL)
@@ -76,8 +111,12 @@ class Answers(unittest.TestCase):
         first = answers(told)
         self.assertEqual(first, [1, 2, 1, 1, 1, 1, 1, 1, 1, 0, 1, 1])
         self.assertEqual(answers(rest(2026, 4, 5)), [2, 0, 6])
+        self.assertEqual(answers(last(0, (2026, 4, 5), DAYS, 1)), [1, -2])
+        self.assertEqual(answers(working((2026, 4, 4), (2026, 4, 6))), [1, 3])
         self.assertEqual(answers(told), first)
         self.assertEqual(answers(told), first)
+        self.assertEqual(answers(list(EACH_CALL)), EACH_ANSWER)
+        self.assertEqual(answers(list(EACH_CALL)), EACH_ANSWER)
 
     def test_prints_reads_and_imports_nothing(self):
         printed = io.StringIO()
@@ -89,15 +128,23 @@ class Answers(unittest.TestCase):
         self.assertEqual(found, EACH_ANSWER)
         self.assertEqual(printed.getvalue(), "")
 
-    def test_long_lists_are_gone_through_by_loops(self):
+    def test_what_is_long_is_gone_through_by_loops(self):
         before = sys.getrecursionlimit()
-        calls = joined([week(0, 1, 2, 3, 4, 5)] * 50 + [rest(2026, 4, 5)] * 50)
+        dates = [(2000 + number, 1, 1) for number in range(20)]
+        calls = joined([
+            *[week(0, 1, 2, 3, 4, 5)] * 40, way(0, 1, 0), stop((1900, 1, 1), (1999, 12, 31)),
+            *[anew(0, (2000, 1, 1), WORKING_DAYS, 999, dates)] * 5, last(0, (1900, 1, 1), WORKING_DAYS, 1),
+            latest(0, (2999, 12, 31), MONTHS, 999), working((2000, 1, 1), (2010, 1, 1)),
+            between(0, (1600, 1, 1), (2999, 12, 31)), *[rest(2026, 4, 5)] * 49,
+        ])
         sys.setrecursionlimit(len(inspect.stack()) + 30)
         try:
             found = answers(calls)
         finally:
             sys.setrecursionlimit(before)
-        self.assertEqual(found, [1, 6] * 50 + [2, 0, 6] * 50)
+        self.assertEqual(found, [
+            *[1, 6] * 40, 1, 0, 1, 1, *[4, 6, 2038, 2, 21] * 5, 1, -7, 4, 1, 2916, 9, 29, 1, 522,
+            4, 1399, 11, 30, 511339, *[2, 0, 6] * 49])
 
 
 if __name__ == "__main__":

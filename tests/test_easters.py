@@ -1,30 +1,13 @@
 import datetime
 import unittest
 
-from tests.helper import ask, begins, closed, easters, last_answer, rest, yearly
+from tests.helper import ask, begins, clavius, closed, easters, last_answer, rest, yearly
 
 KNOWN = (
     (1600, 4, 2), (1700, 4, 11), (1800, 4, 13), (1818, 3, 22), (1886, 4, 25), (1900, 4, 15), (1943, 4, 25),
     (1954, 4, 18), (1961, 4, 2), (1981, 4, 19), (2000, 4, 23), (2008, 3, 23), (2024, 3, 31), (2025, 4, 20),
     (2026, 4, 5), (2038, 4, 25), (2285, 3, 22),
 )
-
-
-def clavius(year):
-    """Easter by golden number and epact: another road than the document's."""
-    golden = year % 19 + 1
-    century = year // 100 + 1
-    dropped = 3 * century // 4 - 12
-    moon = (8 * century + 5) // 25 - 5
-    sunday = 5 * year // 4 - dropped - 10
-    epact = (11 * golden + 20 + moon - dropped) % 30
-    if epact == 24 or (epact == 25 and golden > 11):
-        epact += 1
-    full_moon = 44 - epact
-    if full_moon < 21:
-        full_moon += 30
-    day = full_moon + 7 - (sunday + full_moon) % 7
-    return datetime.date(year, 3, 1) + datetime.timedelta(day - 1)
 
 
 def rest_on(date):

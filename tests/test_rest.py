@@ -18,14 +18,11 @@ class Rest(unittest.TestCase):
         found = ask(*[rest(year, 2, 29) for year in (1600, 1700, 2000, 2900, 2996)])
         self.assertEqual(found, [[0, 1], [-1], [0, 1], [-1], [0, 0]])
 
-    def test_the_day_of_the_week_of_every_day(self):
-        day = datetime.date(1600, 1, 1)
-        one = datetime.timedelta(1)
-        while day.year < 3000:
-            dates = []
-            while day.year < 3000 and len(dates) < 100:
-                dates.append(day)
-                day += one
+    def test_the_day_of_the_week_in_every_month(self):
+        for year in range(1600, 3000):
+            firsts = [datetime.date(year, month, 1) for month in range(1, 13)]
+            ends = [first - datetime.timedelta(1) for first in firsts[1:]]
+            dates = [*firsts, *ends, datetime.date(year, 12, 31)]
             found = ask(*[rest(date.year, date.month, date.day) for date in dates])
             self.assertEqual(found, [[0, date.weekday()] for date in dates])
 
